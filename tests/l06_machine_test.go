@@ -288,16 +288,9 @@ func brokenCodes() map[string]impl.Code {
 	}
 }
 
-func TestWhatIsNotRight(t *testing.T) {
+// eachNotRight asks of machines in each state that are not right, each for one reason.
+func eachNotRight(ask func(why string, c impl.Code, m impl.Machine)) {
 	c, machines := machinesToAsk()
-	value := poolOf(intNode(3))
-	ask := func(why string, c impl.Code, m impl.Machine) {
-		t.Helper()
-		askRight(t, why, c, m, false)
-		askMachine(t, why+", Step", c, m, impl.Step(c, m), noMachine())
-		askMachine(t, why+", Answer", c, m, impl.Answer(c, m, value, 0), noMachine())
-		askMachine(t, why+", Answer of nothing", c, m, impl.Answer(c, m, impl.Pool{}, 0), noMachine())
-	}
 	for _, m := range machines {
 		for why, b := range brokenCodes() {
 			ask(why, b, m)
@@ -326,6 +319,16 @@ func TestWhatIsNotRight(t *testing.T) {
 	}
 	ask("zero", impl.Code{}, impl.Machine{})
 	ask("zero", c, impl.Machine{})
+}
+
+func TestWhatIsNotRight(t *testing.T) {
+	value := poolOf(intNode(3))
+	eachNotRight(func(why string, c impl.Code, m impl.Machine) {
+		askRight(t, why, c, m, false)
+		askMachine(t, why+", Step", c, m, impl.Step(c, m), noMachine())
+		askMachine(t, why+", Answer", c, m, impl.Answer(c, m, value, 0), noMachine())
+		askMachine(t, why+", Answer of nothing", c, m, impl.Answer(c, m, impl.Pool{}, 0), noMachine())
+	})
 }
 
 func TestMachineNew(t *testing.T) {

@@ -12,7 +12,7 @@ import (
 // hangingByRules: the numbers of all nodes on which a root hangs, in their order.
 func hangingByRules(p impl.Pool, roots ...int) []int {
 	var list []int
-	met := map[int]bool{}
+	met := make([]bool, len(p.Nodes))
 	var down func(v int)
 	down = func(v int) {
 		if met[v] {
@@ -44,16 +44,22 @@ func reachByRules(p impl.Pool, roots ...int) []bool {
 	return told
 }
 
+// placeIn: where a value stands among these, which are sorted.
+func placeIn(hanging []int, v int) int {
+	at, _ := slices.BinarySearch(hanging, v)
+	return at
+}
+
 // nodesByRules: these nodes, which are all that one of them hangs on, as they stand behind so many others.
 func nodesByRules(p impl.Pool, hanging []int, ahead int) []impl.Node {
 	var nodes []impl.Node
 	for _, v := range hanging {
 		n := p.Nodes[v]
 		if n.Kind == impl.KPair || n.Kind == impl.KFun || n.Kind == impl.KKont {
-			n.A = ahead + slices.Index(hanging, n.A)
+			n.A = ahead + placeIn(hanging, n.A)
 		}
 		if n.Kind == impl.KPair {
-			n.B = ahead + slices.Index(hanging, n.B)
+			n.B = ahead + placeIn(hanging, n.B)
 		}
 		nodes = append(nodes, n)
 	}
@@ -64,7 +70,7 @@ func keptByRules(p impl.Pool, roots ...int) (impl.Pool, []int) {
 	hanging := hangingByRules(p, roots...)
 	var now []int
 	for _, root := range roots {
-		now = append(now, slices.Index(hanging, root))
+		now = append(now, placeIn(hanging, root))
 	}
 	return poolOf(nodesByRules(p, hanging, 0)...), now
 }
