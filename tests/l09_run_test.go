@@ -55,16 +55,13 @@ func aloneByRules(c impl.Code, name string, most int) []aloneState {
 	}
 	states := []aloneState{{m: m}}
 	var told []string
-	since := 0
-	for count := 1; count <= most && m.State == impl.MsRun && since < 2000; count++ {
+	for count := 1; count <= most && m.State == impl.MsRun && count <= 2000; count++ {
 		m = steppedByRules(c, m)
-		since++
 		if len(m.Pool.Nodes) > 2000 {
 			m = tidiedByRules(m)
 		}
 		if m.State == impl.MsAsk {
 			m, told = answeredAlone(c, m, told)
-			since = 0
 		}
 		states = append(states, aloneState{m, told, count})
 	}
@@ -635,26 +632,56 @@ func TestAloneThatEndsWithAnAnswer(t *testing.T) {
 	}
 }
 
-// So many steps are meant in all: each answer lets it run on, for MaxSteps at most until it asks again.
+// Alone takes at most MaxSteps in all, however often it is answered, and however many are given.
 func TestAloneBeyondMaxSteps(t *testing.T) {
-	for _, x := range []struct {
-		text       string
-		steps      int
-		most, tell int
-	}{
-		{endless, 1999, 1999, 0}, {endless, 2000, 2000, 0}, {endless, 2001, 2000, 0}, {endless, 9000, 2000, 0}, {endless, math.MaxInt, 2000, 0},
-		{endlessPrinting, 1999, 1999, 170}, {endlessPrinting, 2000, 2000, 170}, {endlessPrinting, 2001, 2001, 170}, {endlessPrinting, 5003, 5003, 420},
-		{endlessGoing, 2001, 2001, 0}, {endlessGoing, 4500, 4500, 0},
+	for text, told := range map[string]int{
+		endless: 0, endlessPrinting: 249, endlessGoing: 0,
 		// It asks at first, and then runs on.
-		{"(do (print 1) " + endless + ")", 1500, 1500, 1}, {"(do (print 1) " + endless + ")", 2003, 2003, 1}, {"(do (print 1) " + endless + ")", 2004, 2003, 1}, {"(do (print 1) " + endless + ")", math.MaxInt, 2003, 1},
+		"(do (print 1) " + endless + ")":                                                                          1,
+		"(do (go 1) (print (self)) (print 2) " + endless + ")":                                                    2,
+		"(define (main) (f (callcc id))) (define (id k) k) (define (f k) (g (print 1) k)) (define (g x k) (k k))": 199,
 	} {
-		c := programOf(t, x.text)
-		states := aloneByRules(c, "main", x.steps)
+		c := programOf(t, text)
+		states := aloneByRules(c, "main", 9000)
 		want := states[len(states)-1]
-		if want.count != x.most || want.m.State != impl.MsRun || len(want.told) < x.tell {
-			t.Fatalf("%s, %d steps: it should be %d, %d; told %d", x.text, x.steps, x.most, want.count, len(want.told))
+		if want.count != 2000 || want.m.State != impl.MsRun || len(want.told) != told {
+			t.Fatalf("%s: it should run on, and tell %d; it tells %d, %d steps", text, told, len(want.told), want.count)
 		}
-		askAlone(t, x.text, c, "main", x.steps, want)
+		for _, steps := range []int{1, 500, 1998, 1999} {
+			askAlone(t, text, c, "main", steps, states[steps])
+		}
+		for _, steps := range []int{2000, 2001, 2002, 2500, 3999, 4000, 4001, 8004, 1 << 31, 1 << 32, 1 << 62, math.MaxInt - 1, math.MaxInt} {
+			askAlone(t, text, c, "main", steps, want)
+			// With more steps a wrong one might never answer.
+			if t.Failed() {
+				return
+			}
+		}
+	}
+}
+
+// atStep: a program that prints again and again and then comes to what is last, with its last step but for the answer just there.
+
+// One that has printed often comes to its last part ahead of MaxSteps, with just that step, or never.
+func TestAloneThatEndsAtMaxSteps(t *testing.T) {
+	// How it ends when there are steps enough for the last part; those that are answered take as many steps as those that are not.
+	for last, state := range map[string]int{"(print 8)": impl.MsDone, "(self)": impl.MsDone, "(go 1)": impl.MsDone, "(recv)": impl.MsAsk, "(spawn 1)": impl.MsAsk, "(car 1)": impl.MsFail, "8": impl.MsDone} {
+		ended := map[int]bool{}
+		for _, more := range []int{26, 27, 28, 29, 30, 31, 32, 33, 34, 35, 36} {
+			// A 5 takes two steps, and the if takes five.
+			end := strings.Repeat("5 ", (more-more%2*5)/2) + strings.Repeat("(if 5 5 5) ", more%2) + last
+			c := programOf(t, "(define (loop p) (if (< (car p) 67) (do (print (car p)) ((cdr p) (cons (+ 1 (car p)) (cdr p)))) (end)))", "(define (end) (do "+end+"))", "(loop (callcc (fn (k) (cons 0 k))))")
+			states := aloneByRules(c, "main", 9000)
+			all := len(states) - 1
+			for _, steps := range []int{1998, 1999, 2000, 2001, 2002, 1 << 62} {
+				askAlone(t, end, c, "main", steps, states[min(steps, all)])
+			}
+			ended[all] = ended[all] || states[all].m.State == state
+			ended[-1] = ended[-1] || states[all].m.State == impl.MsRun
+		}
+		if !ended[1998] || !ended[1999] || !ended[2000] || !ended[-1] {
+			t.Error(last, "should be the last part", ended)
+		}
 	}
 }
 
@@ -709,7 +736,7 @@ func TestAloneOfWhatIsLong(t *testing.T) {
 // Where it is full it ends, and what was told stays.
 func TestAloneOfWhatIsFull(t *testing.T) {
 	for more := range 3 {
-		c := programOf(t, "(define (f n) (do (print n) (+ 1 (f (+ n 1)))))", "(define (g l) (f 0))", "(g (quote ("+strings.Repeat("a ", more)+")))")
+		c := programOf(t, "(define (f n) (do (print n) "+strings.Repeat("(+ 1 ", 8)+"(f (+ n 1))"+strings.Repeat(")", 8)+"))", "(define (g l) (f 0))", "(g (quote ("+strings.Repeat("a ", more)+")))")
 		states := aloneByRules(c, "main", 5000)
 		want := states[len(states)-1]
 		if want.m.State != impl.MsFail || want.m.Ask != impl.FlFull || len(want.told) < 50 {
