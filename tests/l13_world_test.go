@@ -443,7 +443,7 @@ func whereByRules(w impl.World, pid int) int {
 		return w.Homes[home].At
 	}
 	for number, l := range w.Links {
-		if w.Places < 1 || number/w.Places >= w.Places || number >= len(w.Gave) {
+		if w.Places < 1 || number >= len(w.Gave) {
 			break
 		}
 		for at, s := range w.Gave[number] {
@@ -1154,7 +1154,7 @@ func TestWhereIsOfWorldsThatAreNotRight(t *testing.T) {
 		{"places below 0", -1, -1, func(w *impl.World) { w.Places = -1 }},
 		{"places far below 0", -1, -1, func(w *impl.World) { w.Places = math.MinInt }},
 		{"places that wrap round", -1, -1, func(w *impl.World) { w.Places = -1 << 32 }},
-		{"one place", -1, -1, func(w *impl.World) { w.Places = 1 }},
+		{"one place", 0, 0, func(w *impl.World) { w.Places = 1 }},
 		{"three places", 1, 2, func(w *impl.World) { w.Places = 3 }},
 		{"too many places", 1, 2, func(w *impl.World) { w.Places = 4 }},
 		{"far too many places", 1, 2, func(w *impl.World) { w.Places = 1 << 32 }},
@@ -1194,6 +1194,48 @@ func TestWhereIsOfWorldsThatAreNotRight(t *testing.T) {
 	for _, pid := range []int{0, -1, lastPid + 1, math.MinInt, math.MaxInt} {
 		askWhere(t, "a home of no pid", moved(func(w *impl.World) { w.Homes[0].P.Pid = pid }), pid, 1)
 		askWhere(t, "no pid on its way", moved(func(w *impl.World) { w.Gave[1][0] = procMove(pid) }), pid, -1)
+	}
+}
+
+// A link beyond Places times Places goes somewhere, too: its number is a times Places and b, and b is where, whatever a is.
+func TestWhereIsOnLinksBeyondThePlaces(t *testing.T) {
+	asked := 0
+	for places := 1; places <= 12; places++ {
+		for number := range 40 {
+			w := withWays(bareWorld(1), number+1)
+			w.Places = places
+			setWay(&w, number, 1, procMove(5), "x", procMove(6))
+			to := number
+			for to >= places {
+				to -= places
+			}
+			why := fmt.Sprint("link ", number, " with ", places, " places")
+			askWhere(t, why, w, 6, to)
+			askWhere(t, why+", handed up", w, 5, -1)
+			askWhere(t, why+", another one", w, 7, -1)
+			// A link ahead of it comes first, one behind it does not.
+			w.Links, w.Gave = append(w.Links, impl.Link{}), append(w.Gave, words(procMove(6), procMove(8)))
+			askWhere(t, why+", and one behind it", w, 6, to)
+			askWhere(t, why+", one behind it", w, 8, (to+1)%places)
+			setWay(&w, 0, 0, procMove(6))
+			if number > 0 {
+				askWhere(t, why+", and one ahead of it", w, 6, 0)
+			}
+			w.Homes = homesOf(places+3, 6)
+			askWhere(t, why+", and a home", w, 6, places+3)
+			asked++
+		}
+	}
+	if asked != 480 {
+		t.Error("so many were asked", asked)
+	}
+	for _, places := range []int{0, -1, -2, -3, -40, math.MinInt} {
+		for number := range 10 {
+			w := withWays(bareWorld(1), 10)
+			w.Places = places
+			setWay(&w, number, 0, procMove(5))
+			askWhere(t, fmt.Sprint("link ", number, " with ", places, " places"), w, 5, -1)
+		}
 	}
 }
 
