@@ -1607,35 +1607,41 @@ func askWays(t *testing.T, why string, w impl.World) {
 	}
 }
 
-// Promise 14, and what follows from it: rows of deeds, done to new worlds of many programs and of each number of places.
-func TestDeedsKeepToThePromise(t *testing.T) {
-	n := tally{}
+// eachDeed: rows of deeds, done to new worlds of many programs and of each number of places, and behind each what WorldDo told of it.
+func eachDeed(t *testing.T, seed int, rows int, ask func(why string, before impl.World, d impl.Deed, after impl.World, code int)) {
+	t.Helper()
 	for i, text := range promiseTexts() {
-		for row := range 9 {
+		for row := range rows {
 			// Of the others one row for each number of places is enough.
 			if i >= len(livelyPrograms()) && row >= mostPlaces {
 				break
 			}
 			places := 1 + row%mostPlaces
-			r := &aRandom{x: uint64(1400 + 10*i + row)}
+			r := &aRandom{x: uint64(seed + 10*i + row)}
 			w := programWorld(t, places, text)
 			for step := range 260 {
 				d := r.someDeed(w, row+step/65)
-				why := fmt.Sprint(text, ", of ", places, ", deed ", step)
 				next, code := impl.WorldDo(w, d)
-				askKeepsToThePromise(t, why, w, d, next, code)
-				askWays(t, why, next)
-				if code == isBad {
-					next = w
+				ask(fmt.Sprint(text, ", of ", places, ", deed ", step, ", ", d), w, d, next, code)
+				if code != isBad {
+					w = next
 				}
-				n.see(w, d, next, code)
-				w = next
 			}
 			if t.Failed() {
 				return
 			}
 		}
 	}
+}
+
+// Promise 14, and what follows from it.
+func TestDeedsKeepToThePromise(t *testing.T) {
+	n := tally{}
+	eachDeed(t, 1400, 9, func(why string, before impl.World, d impl.Deed, after impl.World, code int) {
+		askKeepsToThePromise(t, why, before, d, after, code)
+		askWays(t, why, after)
+		n.see(before, d, after, code)
+	})
 	n.least(t, map[string]int{
 		"step 0": 3000, "step 2": 500, "step 3": 1000, "step 4": 1000, "step 5": 200, "none 1": 200,
 		"show 0": 800, "show 2": 1000, "show 3": 1000, "show 5": 200, "give 0": 2000, "give 2": 100,
