@@ -754,13 +754,21 @@ func (r *aRandom) talk(deep int) string {
 		return []string{"1", "x", "x", "(self)", "(quote a)", "#f", "7"}[r.below(7)]
 	}
 	e := func() string { return r.talk(deep - 1 - r.below(2)*r.below(deep)) }
-	switch r.below(12) {
+	switch kind := r.below(12); kind {
 	case 0, 1, 2:
 		return "(print " + e() + ")"
 	case 3:
 		return "(go " + e() + ")"
 	case 4:
 		return "(+ 1 " + []string{"2", "x", e()}[r.below(3)] + ")"
+	default:
+		return nested(kind, e)
+	}
+}
+
+// nested: an expression of others that calls, binds and comes back; of each kind from 5 on another one.
+func nested(kind int, e func() string) string {
+	switch kind {
 	case 5:
 		return "(cons " + e() + " " + e() + ")"
 	case 6:
