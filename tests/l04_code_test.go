@@ -1034,6 +1034,7 @@ func TestCompileByRules(t *testing.T) {
 
 // Programs of about MaxCode instructions, with mistakes ahead of the last one or behind it.
 func TestLongProgramsByRules(t *testing.T) {
+	t.Parallel()
 	r := &aRandom{x: 31}
 	met := map[int]int{}
 	for i := range 400 {

@@ -1538,6 +1538,7 @@ func (r *aRandom) someMachine(c impl.Code) impl.Machine {
 }
 
 func TestStepByRules(t *testing.T) {
+	t.Parallel()
 	r := &aRandom{x: 47}
 	states, fails, ops := map[int]int{}, map[int]int{}, map[int]int{}
 	for range 60000 {
@@ -1572,6 +1573,7 @@ func TestStepByRules(t *testing.T) {
 }
 
 func TestStepOfFullPoolsByRules(t *testing.T) {
+	t.Parallel()
 	r := &aRandom{x: 53}
 	fails, full := map[int]int{}, 0
 	for range 3000 {

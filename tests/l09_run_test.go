@@ -312,6 +312,7 @@ func TestTidiedAboveKeepAbove(t *testing.T) {
 
 // Every second step makes two nodes: so it is known when they are too many.
 func TestWhenItIsTidied(t *testing.T) {
+	t.Parallel()
 	c := codeFrom(poolOf(nilNode()), strings.Repeat("lit 0, pop, ", 150)+"lit 0, back")
 	for count := 1980; count <= 2003; count++ {
 		m := withNodes(impl.Machine{Pool: poolOf(nilNode())}, count)
@@ -337,6 +338,7 @@ func TestWhenItIsTidied(t *testing.T) {
 
 // Where more is needed than KeepAbove it is tidied behind each step, so that there is never anything else.
 func TestTidiedBehindEachStep(t *testing.T) {
+	t.Parallel()
 	c, begun := begin(t, "(define (f n) (if (= n 0) 5 (f (- n 1)))) (f 12)")
 	for _, needed := range []int{1990, 2000, 2100, 2700, 2985, 2998} {
 		m := begun
@@ -354,6 +356,7 @@ func TestTidiedBehindEachStep(t *testing.T) {
 }
 
 func TestRunForUntilItIsFull(t *testing.T) {
+	t.Parallel()
 	c, begun := begin(t, growing)
 	printing, _ := impl.RunFor(c, begun, 2000)
 	m := impl.Answer(c, printing, poolOf(nilNode()), 0)
@@ -413,6 +416,7 @@ func TestRunsInParts(t *testing.T) {
 }
 
 func TestRunForByRules(t *testing.T) {
+	t.Parallel()
 	r := &aRandom{x: 97}
 	states, tidied, long := map[int]int{}, 0, 0
 	for range 6000 {
@@ -482,6 +486,7 @@ func readAgain(t *testing.T, c impl.Code, m impl.Machine) impl.Machine {
 
 // Promise 9: when a machine is tidied never matters, and from its bytes it goes on as it would have.
 func TestRunsHoweverTheyAreTurned(t *testing.T) {
+	t.Parallel()
 	for _, x := range allPrograms() {
 		c, m := begin(t, x.text)
 		states := aloneByRules(c, "main", 5000)
@@ -664,6 +669,7 @@ func TestAloneBeyondMaxSteps(t *testing.T) {
 
 // One that has printed often comes to its last part ahead of MaxSteps, with just that step, or never.
 func TestAloneThatEndsAtMaxSteps(t *testing.T) {
+	t.Parallel()
 	// How it ends when there are steps enough for the last part; those that are answered take as many steps as those that are not.
 	for last, state := range map[string]int{"(print 8)": impl.MsDone, "(self)": impl.MsDone, "(go 1)": impl.MsDone, "(recv)": impl.MsAsk, "(spawn 1)": impl.MsAsk, "(car 1)": impl.MsFail, "8": impl.MsDone} {
 		ended := map[int]bool{}
@@ -687,6 +693,7 @@ func TestAloneThatEndsAtMaxSteps(t *testing.T) {
 
 // The steps behind which it is tidied: an answer may leave more than KeepAbove, and only the next step has it tidied.
 func TestAloneIsTidiedBehindSteps(t *testing.T) {
+	t.Parallel()
 	above := 0
 	for ahead := range 24 {
 		// What is put ahead moves the number of nodes that an answer leaves.
@@ -735,6 +742,7 @@ func TestAloneOfWhatIsLong(t *testing.T) {
 
 // Where it is full it ends, and what was told stays.
 func TestAloneOfWhatIsFull(t *testing.T) {
+	t.Parallel()
 	for more := range 3 {
 		c := programOf(t, "(define (f n) (do (print n) "+strings.Repeat("(+ 1 ", 8)+"(f (+ n 1))"+strings.Repeat(")", 8)+"))", "(define (g l) (f 0))", "(g (quote ("+strings.Repeat("a ", more)+")))")
 		states := aloneByRules(c, "main", 5000)
@@ -786,6 +794,7 @@ func nested(kind int, e func() string) string {
 }
 
 func TestAloneByRules(t *testing.T) {
+	t.Parallel()
 	r := &aRandom{x: 103}
 	states, said := map[int]int{}, 0
 	for range 4000 {

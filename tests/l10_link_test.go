@@ -881,6 +881,7 @@ func (n *badNet) something() {
 }
 
 func TestPayloadsOverABadNet(t *testing.T) {
+	t.Parallel()
 	up, held := 0, 0
 	for seed := range 60 {
 		n := &badNet{aRandom: &aRandom{x: uint64(1000 + seed)}}

@@ -585,6 +585,7 @@ func valuesToAskWith() []impl.Node {
 
 // Whatever else would fail, and whatever else would be told: a list of another number of values is asked about first.
 func TestArgsOfAnotherNumber(t *testing.T) {
+	t.Parallel()
 	for _, n := range asks() {
 		for count := range 6 {
 			if count == builtIn()[n-1].takes {
@@ -1136,6 +1137,7 @@ func askProcUnpackByRules(t *testing.T, c impl.Code, s string) bool {
 }
 
 func TestProcUnpackOfOneByteTurned(t *testing.T) {
+	t.Parallel()
 	c, procs := procsToRead()
 	read, refused := 0, 0
 	for _, p := range procs {
@@ -1153,6 +1155,7 @@ func TestProcUnpackOfOneByteTurned(t *testing.T) {
 }
 
 func TestPost(t *testing.T) {
+	t.Parallel()
 	c, _ := machinesToAsk()
 	for why, p := range rightProcs() {
 		for _, nodes := range valuesToRead()[:16] {
@@ -1350,6 +1353,7 @@ func askSameCourse(t *testing.T, why string, s course, stops []stop, often int, 
 
 // Promise 12.
 func TestProcsGoOnFromTheirBytes(t *testing.T) {
+	t.Parallel()
 	kinds, ends := map[int]int{}, map[int]int{}
 	for _, x := range slices.Concat(talkers(), allPrograms()) {
 		c := programOf(t, x.text)
@@ -1382,6 +1386,7 @@ func TestProcsGoOnFromTheirBytes(t *testing.T) {
 
 // From each step to the very end, of a few.
 func TestProcsGoOnToTheirEnd(t *testing.T) {
+	t.Parallel()
 	for _, x := range talkers()[:9] {
 		c := programOf(t, x.text)
 		for why, p := range courses(t, c) {
@@ -1419,6 +1424,7 @@ func (r *aRandom) chat(deep int) string {
 }
 
 func TestAnyProcsGoOnFromTheirBytes(t *testing.T) {
+	t.Parallel()
 	r := &aRandom{x: 1201}
 	kinds, ends, said := map[int]int{}, map[int]int{}, 0
 	for range 500 {
@@ -1523,6 +1529,7 @@ func (r *aRandom) breakProc(p *impl.Proc) {
 }
 
 func TestAnyProcsByRules(t *testing.T) {
+	t.Parallel()
 	r := &aRandom{x: 1203}
 	kinds, fails, right := map[int]int{}, map[int]int{}, 0
 	for range 6000 {

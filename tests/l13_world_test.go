@@ -311,6 +311,7 @@ func TestMailReadOfShortTexts(t *testing.T) {
 }
 
 func TestMailReadOfOneByteTurned(t *testing.T) {
+	t.Parallel()
 	read, refused := 0, 0
 	for _, pieces := range mailForms() {
 		turned(joined(pieces), func(s string) {
@@ -681,11 +682,15 @@ func countTurns() []worldTurn {
 	return list
 }
 
-// linkTurns: one link is another one, the first, the last and one between.
+// linkTurns: one link is another one, the first, the last and one between; of those on which very much was handed in, the last one alone, as each takes its time.
 func linkTurns() []worldTurn {
 	var list []worldTurn
+	long := false
 	add := func(why string, right bool, turn func(w *impl.World, number int)) {
 		for which := range 3 {
+			if long && which != 1 {
+				continue
+			}
 			list = append(list, worldTurn{fmt.Sprint(why, ", link ", which), func(w *impl.World) {
 				last := w.Places*w.Places - 1
 				turn(w, []int{0, last, last / 2}[which])
@@ -693,6 +698,7 @@ func linkTurns() []worldTurn {
 		}
 	}
 	for why, l := range allLinks() {
+		long = l.Sent > 1000 || l.Got > 1000
 		_, broken := brokenLinks()[why]
 		add(why, !broken, func(w *impl.World, number int) { setLink(w, number, l) })
 		if broken {
@@ -831,6 +837,7 @@ func eachTurned(ask func(why string, w impl.World, right bool)) {
 }
 
 func TestWorldOkAtEachEdge(t *testing.T) {
+	t.Parallel()
 	for why, w := range rightWorlds() {
 		askWorldOk(t, why, w, true)
 	}
@@ -1241,6 +1248,7 @@ func TestWhereIsOnLinksBeyondThePlaces(t *testing.T) {
 
 // Of each turned world all are asked for: they answer, and by the rules.
 func TestWhereIsOfTurnedWorlds(t *testing.T) {
+	t.Parallel()
 	eachTurned(func(why string, w impl.World, _ bool) {
 		for _, pid := range []int{0, 3, 5} {
 			askHome(t, why, w, pid, homeByRules(w, pid))
@@ -1410,6 +1418,7 @@ func (r *aRandom) breakWorld(w *impl.World) {
 }
 
 func TestAnyWorldsByRules(t *testing.T) {
+	t.Parallel()
 	r := &aRandom{x: 1303}
 	right, broken, found := 0, 0, 0
 	for range 2000 {
@@ -1467,7 +1476,7 @@ func spansOf(name string, v reflect.Value) []span {
 		if size := uintptr(v.Cap()) * v.Type().Elem().Size(); size > 0 {
 			list = append(list, span{name, whole.Pointer(), whole.Pointer() + size})
 		}
-		for i := range v.Len() {
+		for i := 0; i < v.Len() && hasLists(v.Type().Elem()); i++ {
 			list = append(list, spansOf(fmt.Sprint(name, "[", i, "]"), v.Index(i))...)
 		}
 	case reflect.Struct:
@@ -1476,6 +1485,19 @@ func spansOf(name string, v reflect.Value) []span {
 		}
 	}
 	return list
+}
+
+// hasLists: a value of that type may have lists in it.
+func hasLists(kind reflect.Type) bool {
+	if kind.Kind() != reflect.Struct {
+		return kind.Kind() == reflect.Slice
+	}
+	for i := range kind.NumField() {
+		if hasLists(kind.Field(i).Type) {
+			return true
+		}
+	}
+	return false
 }
 
 // shared: two of these that share memory.

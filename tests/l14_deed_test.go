@@ -6,7 +6,6 @@ import (
 	"reflect"
 	"runtime"
 	"slices"
-	"strings"
 	"sync"
 	"testing"
 	"testing/synctest"
@@ -431,6 +430,7 @@ func TestBadDeedsToWorlds(t *testing.T) {
 
 // Of worlds that are not right each deed is bad, be it right or not; of others it comes to what the rules tell.
 func TestDeedsToTurnedWorlds(t *testing.T) {
+	t.Parallel()
 	good, bad := goodDeeds(), badDeeds()
 	codes, count := map[int]int{}, 0
 	eachTurned(func(why string, w impl.World, right bool) {
@@ -1054,6 +1054,7 @@ func TestDeedsThatShow(t *testing.T) {
 }
 
 func TestDeedsThatShowNoPlace(t *testing.T) {
+	t.Parallel()
 	for places := 1; places <= mostPlaces; places++ {
 		for _, w := range []impl.World{bareWorld(places), busyWorld(places), fullWorld(places)} {
 			for _, far := range []int{places, places + 1, mostPlaces, 9, 1 << 32, math.MaxInt} {
@@ -1116,6 +1117,7 @@ func otherGrams(count int) []impl.Gram {
 
 // Data in order, out of order, twice, out of the window and beyond what was sent; each with its answer behind all grams.
 func TestGiveOfData(t *testing.T) {
+	t.Parallel()
 	for places := 1; places <= mostPlaces; places++ {
 		for from := range places {
 			for to := range places {
@@ -1636,6 +1638,7 @@ func eachDeed(t *testing.T, seed int, rows int, ask func(why string, before impl
 
 // Promise 14, and what follows from it.
 func TestDeedsKeepToThePromise(t *testing.T) {
+	t.Parallel()
 	n := tally{}
 	eachDeed(t, 1400, 9, func(why string, before impl.World, d impl.Deed, after impl.World, code int) {
 		askKeepsToThePromise(t, why, before, d, after, code)
@@ -1652,6 +1655,7 @@ func TestDeedsKeepToThePromise(t *testing.T) {
 
 // The same deeds, held against the rules.
 func TestDeedsByRules(t *testing.T) {
+	t.Parallel()
 	n := tally{}
 	for i, text := range livelyPrograms() {
 		for seed := range 4 {
@@ -1748,6 +1752,7 @@ func (r *aRandom) someGramOf(w impl.World) impl.Gram {
 }
 
 func TestAnyWorldsAndDeedsByRules(t *testing.T) {
+	t.Parallel()
 	r := &aRandom{x: 1499}
 	n := tally{}
 	for range 1500 {
@@ -1851,6 +1856,7 @@ func (r *aRandom) someRow(w impl.World, count int) []impl.Deed {
 }
 
 func TestRunsOfDeeds(t *testing.T) {
+	t.Parallel()
 	codes := map[int]int{}
 	for i, text := range livelyPrograms() {
 		for places := 1; places <= mostPlaces; places++ {
@@ -1917,6 +1923,7 @@ func TestRunsWithRefusedOnes(t *testing.T) {
 }
 
 func TestRunsOfWhatIsNotRight(t *testing.T) {
+	t.Parallel()
 	list := slices.Concat(goodDeeds(), badDeeds())
 	askRunOfDeeds(t, "zero", impl.World{}, list, impl.World{}, nil)
 	asked := 0
@@ -1981,10 +1988,7 @@ func TestRunsLeaveNothingBehind(t *testing.T) {
 	if after := runtime.NumGoroutine(); after > before {
 		t.Errorf("there were %d goroutines, and then %d", before, after)
 	}
-	stacks := make([]byte, 1<<20)
-	if all := string(stacks[:runtime.Stack(stacks, true)]); strings.Contains(all, "/impl.") {
-		t.Errorf("something of the program goes on: %s", all)
-	}
+	askNothingGoesOn(t)
 }
 
 // A run answers the same however often it is asked, by one or by many at once.
@@ -2050,6 +2054,7 @@ func askDeedMemory(t *testing.T, why string, w impl.World, list []impl.Deed) {
 }
 
 func TestNothingIsWrittenByDeeds(t *testing.T) {
+	t.Parallel()
 	worlds, rows := runsToAsk(t)
 	for i, w := range worlds {
 		askDeedMemory(t, fmt.Sprint("world ", i), w, rows[i])

@@ -181,6 +181,7 @@ func TestJudgesOfFairWorlds(t *testing.T) {
 
 // Promise 15, behind each deed.
 func TestWhateverIsDoneToNewWorlds(t *testing.T) {
+	t.Parallel()
 	n := tally{}
 	eachDeed(t, 2100, 6, func(why string, before impl.World, d impl.Deed, after impl.World, code int) {
 		// What is no deed leaves no world.
@@ -245,6 +246,7 @@ func (n tally) seeWays(w impl.World) {
 
 // Promise 15, by runs of as many deeds as there may be.
 func TestWhateverIsDoneByRuns(t *testing.T) {
+	t.Parallel()
 	for i, text := range livelyPrograms() {
 		for places := 1; places <= mostPlaces; places++ {
 			r := &aRandom{x: uint64(2300 + 10*i + places)}
@@ -263,6 +265,7 @@ func TestWhateverIsDoneByRuns(t *testing.T) {
 
 // What one says to another comes up once, and in order, whatever the net does with it: it prints what it hears.
 func TestWhatIsSaidIsHeardOnceAndInOrder(t *testing.T) {
+	t.Parallel()
 	const count = 15
 	want := []string{}
 	for i := range count {
@@ -385,6 +388,7 @@ func TestJudgesOfWorldsThatAreNotRight(t *testing.T) {
 
 // Worlds of which one thing was turned, at each of its edges.
 func TestJudgesOfTurnedWorlds(t *testing.T) {
+	t.Parallel()
 	right, broken := 0, 0
 	for places := 1; places <= mostPlaces; places++ {
 		for _, x := range worldTurns() {
@@ -1003,6 +1007,7 @@ func (r *aRandom) misjudge(w *impl.World) {
 }
 
 func TestAnyWorldsAreJudgedByRules(t *testing.T) {
+	t.Parallel()
 	r := &aRandom{x: 2701}
 	seen := map[verdict]int{}
 	broken := 0

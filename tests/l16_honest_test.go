@@ -157,6 +157,7 @@ func TestDaysOfWorldsThatAreNotRight(t *testing.T) {
 
 // Worlds of which one thing was turned, at each of its edges: zero of those that are not right, and of the others what the rules tell.
 func TestDaysOfTurnedWorlds(t *testing.T) {
+	t.Parallel()
 	right, broken := 0, 0
 	eachTurned(func(why string, w impl.World, fits bool) {
 		n := someDays()[(right+broken)%len(someDays())]
@@ -577,6 +578,7 @@ func TestRoundsOfFullWorlds(t *testing.T) {
 
 // Any worlds, near the limits or not, and what comes of them in some days.
 func TestAnyRoundsByRules(t *testing.T) {
+	t.Parallel()
 	r := &aRandom{x: 1601}
 	turnedBy, broken := 0, 0
 	for range 500 {
@@ -640,6 +642,7 @@ func roundsOf(w impl.World, count int) []impl.World {
 }
 
 func TestDays(t *testing.T) {
+	t.Parallel()
 	for places := 1; places <= mostPlaces; places++ {
 		for _, w := range []impl.World{counters(t, places, 3), programWorld(t, places, roaming(places))} {
 			list := roundsOf(w, mostDays+2)
@@ -966,6 +969,30 @@ func TestNothingIsWrittenByDays(t *testing.T) {
 	}
 }
 
+// askedByMany lets it be asked by one, by many at once, and where few go on at a time.
+func askedByMany(ask func()) {
+	ask()
+	var all sync.WaitGroup
+	for range 8 {
+		all.Go(ask)
+	}
+	all.Wait()
+	for _, procs := range []int{1, 2} {
+		was := runtime.GOMAXPROCS(procs)
+		ask()
+		runtime.GOMAXPROCS(was)
+	}
+}
+
+// askNothingGoesOn: no goroutine is in the program.
+func askNothingGoesOn(t *testing.T) {
+	t.Helper()
+	stacks := make([]byte, 1<<20)
+	if all := string(stacks[:runtime.Stack(stacks, true)]); strings.Contains(all, "/impl.") {
+		t.Errorf("something of the program goes on: %s", all)
+	}
+}
+
 // Each answers the same however often it is asked, by one or by many at once; and what was answered stays.
 func TestDaysAnswerTheSame(t *testing.T) {
 	worlds := worldsForDays(t)
@@ -981,17 +1008,7 @@ func TestDaysAnswerTheSame(t *testing.T) {
 			}
 		}
 	}
-	ask()
-	var all sync.WaitGroup
-	for range 8 {
-		all.Go(ask)
-	}
-	all.Wait()
-	for _, procs := range []int{1, 2} {
-		was := runtime.GOMAXPROCS(procs)
-		ask()
-		runtime.GOMAXPROCS(was)
-	}
+	askedByMany(ask)
 	for why, w := range first {
 		impl.Days(w, 5)
 		if !sameWorld(w, kept[why]) {
@@ -1007,8 +1024,5 @@ func TestDaysLeaveNothingBehind(t *testing.T) {
 		synctest.Test(t, func(t *testing.T) { impl.Round(w) })
 		synctest.Test(t, func(t *testing.T) { impl.Days(w, 2) })
 	}
-	stacks := make([]byte, 1<<20)
-	if all := string(stacks[:runtime.Stack(stacks, true)]); strings.Contains(all, "/impl.") {
-		t.Errorf("something of the program goes on: %s", all)
-	}
+	askNothingGoesOn(t)
 }
