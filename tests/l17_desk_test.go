@@ -88,12 +88,27 @@ func heardByRules(w impl.World, line string) (impl.World, string) {
 func askedByRules(w impl.World, what string, pid int) string {
 	home, at := homeByRules(w, pid), whereByRules(w, pid)
 	switch {
-	case what == "out" && home >= 0 && len(w.Homes[home].P.Out) > 0:
-		return strings.Join(w.Homes[home].P.Out, " ")
+	case what == "out" && home >= 0:
+		return outByRules(w.Homes[home].P.Out)
 	case what == "where" && at >= 0:
 		return fmt.Sprint(at)
 	}
 	return "none"
+}
+
+// outByRules: text by text, with a blank ahead of each but the first; what has no byte then is told as none.
+func outByRules(out []string) string {
+	told := ""
+	for i, text := range out {
+		if i > 0 {
+			told += " "
+		}
+		told += text
+	}
+	if len(told) == 0 {
+		return "none"
+	}
+	return told
 }
 
 // linesByRules: what stands ahead of each byte 10, and the rest, where there is some.
@@ -643,8 +658,12 @@ func TestOutLine(t *testing.T) {
 		{words("a", "", "b"), "a  b"},
 		{words("", ""), " "},
 		{words(" "), " "},
-		// What was printed is there, were it of no bytes.
-		{words(""), ""},
+		// One empty text alone comes to nothing to tell; with a blank there is something.
+		{words(""), "none"},
+		{words("", "1"), " 1"},
+		{words("1", ""), "1 "},
+		{words("", "", ""), "  "},
+		{words("", "none"), " none"},
 		{words("a\nb", "\x00"), "a\nb \x00"},
 		{printed(mostOut), strings.Join(printed(mostOut), " ")},
 	} {
@@ -975,7 +994,7 @@ func sessionTexts() []string {
 	for _, x := range programsThatCatch() {
 		list = append(list, x.text)
 	}
-	return list
+	return append(list, "(define (d n) (if (= n 0) 1 (let x (d (- n 1)) (cons x x)))) (let v (d 9) (do (print v) (go 0) (print v) (print (recv))))")
 }
 
 // someLinesFor: so many lines for a world of that program, each for what the world is when it comes, one after the other.
@@ -1042,10 +1061,7 @@ func TestSessionsTellWhatLinesTell(t *testing.T) {
 func TestSessionsOfRounds(t *testing.T) {
 	for _, x := range journeys() {
 		for places := x.places; places <= mostPlaces; places++ {
-			told := strings.Join(x.told, " ")
-			if len(x.told) == 0 {
-				told = "none"
-			}
+			told := outByRules(x.told)
 			lines := strings.Repeat("round\n", mostLines-2) + "judge\nout 1"
 			askSession(t, x.text, x.text, places, lines, strings.Repeat("ok\n", mostLines-2)+"yes\n"+told+"\n", mostLines)
 			askSession(t, x.text, x.text, places, "\n;\n; round\n\n", "", 4)
@@ -1053,10 +1069,31 @@ func TestSessionsOfRounds(t *testing.T) {
 	}
 }
 
-// What was printed as the empty text alone tells nothing.
-func TestASessionThatPrintsNothing(t *testing.T) {
-	text := "(define (d n) (if (= n 0) (quote a) (let x (d (- n 1)) (cons x x)))) (print (d 9))"
-	askSession(t, "the empty text", text, 1, "out 1\nround\nround\nround\nround\nout 1\njudge", "none\nok\nok\nok\nok\nyes\n", 7)
+// A value that is too long to be written is printed as the empty text; where nothing else is printed, there is nothing to tell.
+func TestASessionThatPrintsEmptyTexts(t *testing.T) {
+	long := "(define (d n) (if (= n 0) (quote a) (let x (d (- n 1)) (cons x x)))) "
+	askSession(t, "the empty text", long+"(print (d 9))", 1, "out 1\nround\nround\nround\nround\nout 1\njudge", "none\nok\nok\nok\nok\nnone\nyes\n", 7)
+	for _, x := range []struct{ main, said string }{
+		{"5", "none"},
+		{"(print (d 9))", "none"},
+		{"(do (print (d 9)) (print (d 9)))", " "},
+		{"(do (print (d 9)) (print (d 9)) (print (d 9)))", "  "},
+		{"(do (print (d 9)) (print 1))", " 1"},
+		{"(do (print 1) (print (d 9)))", "1 "},
+		{"(do (print 1) (print (d 9)) (print 2))", "1  2"},
+		{"(let v (d 9) (do (go 1) (print v)))", "none"},
+		{"(let v (d 9) (do (print v) (go 1) (print v)))", " "},
+		{"(print (quote none))", "none"},
+		{"(print ())", "()"},
+	} {
+		for places := 2; places <= mostPlaces; places++ {
+			outs, _ := outsOf(t, long+x.main, places, 1)
+			if !slices.Equal(outs, words(x.said)) {
+				t.Errorf("%s: it prints %q, and not %q", x.main, outs, x.said)
+			}
+		}
+		askSameSession(t, x.main, long+x.main, 2, strings.Repeat("round\nout 1\nwhere 1\n", mostLines/3))
+	}
 }
 
 // A sendable is what can be sent elsewhere to be called there: with what it is called, and what it prints then; of some that is told as it comes.
